@@ -113,6 +113,71 @@ func invalidBytes() map[string][]int {
 	}
 }
 
+// someSamples returns valid samples that are the same in every run: noise of any size, runs of equal ones, or a smooth line.
+func someSamples(r *rand.Rand, count int) []int {
+	list := make([]int, count)
+	size, step, last := 1+r.Intn(1<<r.Intn(17)), r.Intn(2001)-1000, 0
+	kind := r.Intn(4)
+	for i := range list {
+		switch kind {
+		case 0:
+			list[i] = r.Intn(2*size+1) - size
+		case 1:
+			list[i] = (r.Intn(2)*2 - 1) * impl.MaxSample
+		case 2:
+			last += r.Intn(3) - 1
+			list[i] = last
+		default:
+			list[i] = i*step + r.Intn(3)
+		}
+	}
+	return list
+}
+
+// smallNumbers returns numbers in -size..size that are the same in every run.
+func smallNumbers(r *rand.Rand, count int, size int) []int {
+	list := make([]int, count)
+	for i := range list {
+		list[i] = r.Intn(2*size+1) - size
+	}
+	return list
+}
+
+// invalidSamples are all kinds of lists that are not samples.
+func invalidSamples() map[string][]int {
+	return map[string][]int{
+		"one more than MaxSample":       {0, 0, 0, 0, 0, 0, 0, 0, impl.MaxSample + 1},
+		"one less than -MaxSample":      {-impl.MaxSample - 1, 0, 0, 0, 0, 0, 0, 0, 0},
+		"greatest in the middle":        {0, 0, 0, 0, math.MaxInt, 0, 0, 0, 0},
+		"smallest at the end":           {0, 0, 0, 0, 0, 0, 0, 0, math.MinInt},
+		"far numbers that cancel":       {0, 1 << 32, -1 << 32, 0, 0, 0, 0, 0, 0},
+		"one sample more than MaxBlock": make([]int, impl.MaxBlock+1),
+		"many samples":                  make([]int, 1000),
+	}
+}
+
+// invalidResiduals are all kinds of lists that are not residuals.
+func invalidResiduals() map[string][]int {
+	return map[string][]int{
+		"one more than MaxResidual":     {impl.MaxResidual + 1},
+		"one less than -MaxResidual":    {0, 0, -impl.MaxResidual - 1},
+		"greatest":                      {math.MaxInt},
+		"smallest":                      {0, math.MinInt},
+		"far numbers that cancel":       {1 << 32, -1 << 32},
+		"one number more than MaxBlock": make([]int, impl.MaxBlock+1),
+		"many numbers":                  make([]int, 1000),
+	}
+}
+
+// negated returns all numbers times -1.
+func negated(list []int) []int {
+	out := make([]int, len(list))
+	for i, n := range list {
+		out[i] = -n
+	}
+	return out
+}
+
 // roomy returns the same bytes with spare capacity full of marks.
 func roomy(list []int) []int {
 	long := append(slices.Clone(list), 77, 77, 77, 77, 77, 77, 77, 77)
