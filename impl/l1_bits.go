@@ -113,17 +113,18 @@ func appendCode(b Bits, put func(w *bitWriter) error) (Bits, bool) {
 	return w.bits(), true
 }
 
-// readCode returns the number that a function gets at a place, and the place behind it.
-func readCode(b Bits, at int, get func(r *bitReader) (int, error)) (int, int, bool) {
+// readCode returns what a function gets at a place, and the place behind it.
+func readCode[T any](b Bits, at int, get func(r *bitReader) (T, error)) (T, int, bool) {
+	var none T
 	r, err := newReader(b, at)
 	if err != nil {
-		return 0, 0, false
+		return none, 0, false
 	}
-	n, err := get(r)
+	code, err := get(r)
 	if err != nil {
-		return 0, 0, false
+		return none, 0, false
 	}
-	return n, r.at, true
+	return code, r.at, true
 }
 
 // validBits reports whether bits are valid.
