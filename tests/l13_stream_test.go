@@ -658,13 +658,14 @@ func TestP65AudioCanLoseChannels(t *testing.T) {
 		a := someAudioOf(r, r.Intn(impl.MaxTotal+1))
 		from := r.Intn(len(a.Channels[0]) + 1)
 		to := from + r.Intn(len(a.Channels[0])-from+1)
-		part := cloneAudio(a)
-		for i := range part.Channels {
-			part.Channels[i] = part.Channels[i][from:to]
-		}
 		less := impl.Audio{Rate: a.Rate, Depth: a.Depth, Channels: a.Channels[:1]}
-		if !impl.ValidAudio(a) || !impl.ValidAudio(less) || !impl.ValidAudio(part) {
-			t.Errorf("%v, its first channel or its part from %d to %d is not valid", a, from, to)
+		if !impl.ValidAudio(a) || !impl.ValidAudio(less) {
+			t.Errorf("%v or its first channel is not valid", a)
+		}
+		for _, whole := range []impl.Audio{a, less} {
+			if part, ok := impl.CutAudio(whole, from, to); !ok || !impl.ValidAudio(part) || len(part.Channels[0]) != to-from {
+				t.Errorf("the part of %v from %d to %d is %v, %v", whole, from, to, part, ok)
+			}
 		}
 	}
 }
@@ -690,9 +691,16 @@ func TestP67StreamsAreFrames(t *testing.T) {
 	r := rand.New(rand.NewSource(67))
 	for range 300 {
 		a, block, list := someStream(r)
-		rest := list[impl.HeadBytes:]
+		if !slices.Equal(list[:impl.HeadBytes], headBytes(a, block)) {
+			t.Errorf("EncodeStream(%v, %d) begins with %v", a, block, list[:impl.HeadBytes])
+		}
+		rest, total := list[impl.HeadBytes:], len(a.Channels[0])
 		for number := range frameCount(a, block) {
-			part, ok := impl.EncodeFrame(frameAt(a, block, number))
+			samples, ok := impl.CutAudio(a, number*block, min((number+1)*block, total))
+			if !ok {
+				t.Fatalf("CutAudio of %v has no block %d of %d samples", a, number, block)
+			}
+			part, ok := impl.EncodeFrame(impl.Frame{Number: number, Depth: a.Depth, Channels: samples.Channels})
 			if !ok || len(part) > len(rest) || !slices.Equal(part, rest[:len(part)]) {
 				t.Fatalf("EncodeStream(%v, %d) has no frame %d", a, block, number)
 			}

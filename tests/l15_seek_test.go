@@ -381,6 +381,28 @@ func TestP76TheNearestPointBeforeIsTold(t *testing.T) {
 	}
 }
 
+func TestP77PartsAreReadLikeTheWhole(t *testing.T) {
+	r := rand.New(rand.NewSource(77))
+	for range 60 {
+		_, _, list := someStream(r)
+		a, _, ok := impl.DecodeStream(list)
+		if !ok {
+			t.Fatalf("DecodeStream(%v) fails", list)
+		}
+		total := len(a.Channels[0])
+		checkRead(t, list, 0, total, a.Channels)
+		for range 10 {
+			from := r.Intn(total + 1)
+			to := from + r.Intn(total-from+1)
+			part, ok := impl.CutAudio(a, from, to)
+			if !ok {
+				t.Errorf("CutAudio(%v, %d, %d) fails", a, from, to)
+			}
+			checkRead(t, list, from, to-from, part.Channels)
+		}
+	}
+}
+
 func TestP141SeekingFindsFrames(t *testing.T) {
 	r := rand.New(rand.NewSource(141))
 	for range 60 {

@@ -406,20 +406,36 @@ func TestP85TracksFollowEachOther(t *testing.T) {
 	}
 }
 
-func TestSplitTracksMakeUpTheWhole(t *testing.T) {
+func TestP86TracksMakeUpTheWhole(t *testing.T) {
 	r := rand.New(rand.NewSource(86))
+	several := 0
 	for range 300 {
 		a, starts := someTracks(r, 256)
-		parts := impl.SplitTracks(a, starts)
 		checkSplit(t, a, starts)
+		parts := impl.SplitTracks(a, starts)
 		if got := joined(parts); !slices.EqualFunc(got, a.Channels, slices.Equal[[]int]) {
 			t.Errorf("the tracks of %v, %v have %v", a, starts, got)
+		}
+		whole := parts[0]
+		for _, part := range parts[1:] {
+			several++
+			more, ok := impl.JoinAudio(whole, part)
+			if !ok {
+				t.Errorf("JoinAudio(%v, %v) fails", whole, part)
+			}
+			whole = more
+		}
+		if !sameAudio(whole, a) {
+			t.Errorf("JoinAudio of the tracks of %v, %v is %v", a, starts, whole)
 		}
 		for _, part := range parts {
 			if !impl.ValidAudio(part) || len(part.Channels[0]) == 0 {
 				t.Errorf("SplitTracks(%v, %v) has %v", a, starts, part)
 			}
 		}
+	}
+	if several < 500 {
+		t.Errorf("only %d tracks were joined", several)
 	}
 }
 

@@ -456,7 +456,7 @@ func TestP88PeaksAreReached(t *testing.T) {
 	}
 }
 
-func TestLoudnessIsAtMostThePeak(t *testing.T) {
+func TestP89LoudnessIsAtMostThePeak(t *testing.T) {
 	r := rand.New(rand.NewSource(89))
 	for range 300 {
 		a := someLevels(r, 100)
@@ -469,7 +469,7 @@ func TestLoudnessIsAtMostThePeak(t *testing.T) {
 		if got < 0 || got > peak*peak {
 			t.Errorf("LoudnessOf(%v, %d) = %d, but the peak is %d", a, window, got, peak)
 		}
-		checkLoudness(t, "audio in reverse order", backward(a), window, got)
+		checkLoudness(t, "audio in reverse order", impl.ReverseAudio(a), window, got)
 	}
 }
 
